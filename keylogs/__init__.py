@@ -1,0 +1,1 @@
+"""Tables of keys and values, and logs, in the files of LevelDB; keylogs.desk has the calls."""

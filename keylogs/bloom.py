@@ -1,0 +1,77 @@
+"""The filter: for each stretch of the file a piece that tells which keys may be there."""
+
+from keylogs.packing import fixed, number_at
+
+STRETCH_BITS = 11
+STRETCH = 2048
+WORD = 0xFFFFFFFF
+HASH_BEGIN = 0xBC9F1D34
+HASH_FACTOR = 0xC6A4A793
+
+
+def key_hash(key):
+    """The words' h of a key."""
+    mixed = HASH_BEGIN ^ ((len(key) * HASH_FACTOR) & WORD)
+    over = len(key) % 4
+    whole = len(key) - over
+    for begin in range(0, whole, 4):
+        mixed = ((mixed + number_at(key, begin, 4)) * HASH_FACTOR) & WORD
+        mixed = mixed ^ (mixed >> 16)
+    if over > 0:
+        mixed = ((mixed + number_at(key, whole, over)) * HASH_FACTOR) & WORD
+        mixed = mixed ^ (mixed >> 24)
+    return mixed
+
+
+def bit_places(key, probes, total):
+    """Which of a piece's bits, total of them, a key sets."""
+    place = key_hash(key)
+    step = (place >> 17) | ((place << 15) & WORD)
+    places = []
+    for probe in range(probes):
+        places.append(place % total)
+        place = (place + step) & WORD
+    return places
+
+
+def probes_for(bits):
+    """How many bits each key sets where there are so many bits for each key."""
+    return min(max(69 * bits // 100, 1), 30)
+
+
+def piece_of(keys, bits):
+    """The piece of these keys with so many bits for each."""
+    if keys == []:
+        return []
+    size = (max(64, len(keys) * bits) + 7) // 8
+    probes = probes_for(bits)
+    piece = [0] * size
+    for key in keys:
+        for place in bit_places(key, probes, 8 * size):
+            piece[place // 8] = piece[place // 8] | (1 << (place % 8))
+    piece.append(probes)
+    return piece
+
+
+def keys_by_piece(begins, block_keys, end):
+    """The keys of each piece, of data blocks that begin at begins and end at end."""
+    pieces = [[] for stretch in range(end // STRETCH)]
+    if begins != [] and begins[-1] // STRETCH == len(pieces):
+        pieces.append([])
+    for begin, keys in zip(begins, block_keys):
+        pieces[begin // STRETCH].extend(keys)
+    return pieces
+
+
+def filter_of(begins, block_keys, end, bits):
+    """The filter of data blocks that begin at begins, have these keys and end at end."""
+    content = []
+    places = []
+    for keys in keys_by_piece(begins, block_keys, end):
+        places.append(len(content))
+        content.extend(piece_of(keys, bits))
+    places_begin = len(content)
+    for place in places + [places_begin]:
+        content.extend(fixed(place, 4))
+    content.append(STRETCH_BITS)
+    return content

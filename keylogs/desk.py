@@ -1,0 +1,24 @@
+"""The calls: each takes and answers whole numbers and lists of them, and keeps nothing."""
+
+from keylogs.answers import NO_ROWS, OUT_OF_RANGE, with_length
+from keylogs.checksum import sum_from
+from keylogs.limits import is_length, is_shape
+from keylogs.making import table_of
+from keylogs.rows import entries_of
+
+
+def sum_of(start, data):
+    """The sum of data, gone on with from start, the sum of the bytes before."""
+    if not is_length(len(data)):
+        return [0]
+    return [sum_from(start, data)]
+
+
+def make(interval, block, bits, most, rows):
+    """The table of the rows' entries, its length ahead of it, or a refusal."""
+    if not (is_length(len(rows)) and is_length(most) and is_shape(interval, block, bits)):
+        return [OUT_OF_RANGE]
+    entries = entries_of(rows)
+    if entries is None:
+        return [NO_ROWS]
+    return with_length(table_of(entries, interval, block, bits), most)

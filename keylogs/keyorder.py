@@ -1,0 +1,28 @@
+"""What keys have in common, and keys that lie between others."""
+
+
+def shared_length(one, other):
+    """How many first bytes the two keys have in common."""
+    shared = 0
+    for mine, yours in zip(one, other):
+        if mine != yours:
+            break
+        shared += 1
+    return shared
+
+
+def key_between(last, following):
+    """The index key of a block whose last key comes before the next block's first one."""
+    shared = shared_length(last, following)
+    ended = shared == len(last) or shared == len(following)
+    if not ended and last[shared] + 1 < following[shared]:
+        return last[:shared] + [last[shared] + 1]
+    return last
+
+
+def key_behind(last):
+    """The index key of the last block."""
+    for place, byte in enumerate(last):
+        if byte != 255:
+            return last[:place] + [byte + 1]
+    return last

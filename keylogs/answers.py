@@ -1,7 +1,9 @@
 """What calls answer: refusals, and bytes with their length."""
 
 OUT_OF_RANGE = -2
+NO_TABLE = -3
 NO_ROWS = -4
+NOT_THERE = -5
 TOO_LONG = -7
 
 

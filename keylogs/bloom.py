@@ -1,7 +1,10 @@
 """The filter: for each stretch of the file a piece that tells which keys may be there."""
 
+from keylogs.errors import NoTable
 from keylogs.packing import fixed, number_at
 
+PLACE_WIDTH = 4
+END_WIDTH = 5
 STRETCH_BITS = 11
 STRETCH = 2048
 WORD = 0xFFFFFFFF
@@ -72,6 +75,26 @@ def filter_of(begins, block_keys, end, bits):
         content.extend(piece_of(keys, bits))
     places_begin = len(content)
     for place in places + [places_begin]:
-        content.extend(fixed(place, 4))
+        content.extend(fixed(place, PLACE_WIDTH))
     content.append(STRETCH_BITS)
     return content
+
+
+def places_of(content):
+    """Where a filter's pieces begin, and where the last one has ended."""
+    end = len(content) - END_WIDTH
+    if end < 0 or content[-1] != STRETCH_BITS:
+        raise NoTable()
+    told = number_at(content, end, PLACE_WIDTH)
+    if told > end or (end - told) % PLACE_WIDTH != 0:
+        raise NoTable()
+    places = []
+    before = 0
+    # The number at the end, where the places begin, is also where the last piece has ended.
+    for begin in range(told, end + 1, PLACE_WIDTH):
+        place = number_at(content, begin, PLACE_WIDTH)
+        if place < before or place > told:
+            raise NoTable()
+        places.append(place)
+        before = place
+    return places

@@ -1,8 +1,10 @@
 """The calls: each takes and answers whole numbers and lists of them, and keeps nothing."""
 
-from keylogs.answers import NO_ROWS, OUT_OF_RANGE, with_length
+from keylogs.answers import NO_ROWS, NO_TABLE, NOT_THERE, OUT_OF_RANGE, with_length
+from keylogs.asking import total_entries, value_of
 from keylogs.checksum import sum_from
-from keylogs.limits import is_length, is_shape
+from keylogs.errors import NoTable
+from keylogs.limits import is_key_length, is_length, is_shape
 from keylogs.making import table_of
 from keylogs.rows import entries_of
 
@@ -22,3 +24,26 @@ def make(interval, block, bits, most, rows):
     if entries is None:
         return [NO_ROWS]
     return with_length(table_of(entries, interval, block, bits), most)
+
+
+def count(table):
+    """How many entries the table has, or a refusal."""
+    if not is_length(len(table)):
+        return [OUT_OF_RANGE]
+    try:
+        return [total_entries(table)]
+    except NoTable:
+        return [NO_TABLE]
+
+
+def get(most, table, key):
+    """The key's value in the table, its length ahead of it, or a refusal."""
+    if not (is_length(len(table)) and is_key_length(len(key)) and is_length(most)):
+        return [OUT_OF_RANGE]
+    try:
+        value = value_of(table, key)
+    except NoTable:
+        return [NO_TABLE]
+    if value is None:
+        return [NOT_THERE]
+    return with_length(value, most)

@@ -1,13 +1,10 @@
 """A table is made of entries."""
 
-from keylogs.blocks import BlockWriter, append_block
+from keylogs.blocks import BlockWriter
 from keylogs.bloom import filter_of
+from keylogs.handles import append_sealed
 from keylogs.keyorder import key_behind, key_between
-from keylogs.packing import fixed
-
-FILTER_NAME = "filter.leveldb.BuiltinBloomFilter2"
-HANDLES_WIDTH = 40
-MAGIC = 0xDB4775248B80FB57
+from keylogs.layout import filter_key, table_end
 
 
 def data_blocks(entries, interval, size):
@@ -42,16 +39,8 @@ def index_content(block_keys, handles):
     """The index block's bytes."""
     index = BlockWriter(1)
     for key, handle in zip(index_keys(block_keys), handles):
-        index.put(key, handle)
+        index.put(key, handle.packed())
     return index.content()
-
-
-def table_end(meta_handle, index_handle):
-    """The table's last 48 bytes."""
-    content = meta_handle + index_handle
-    content.extend([0] * (HANDLES_WIDTH - len(content)))
-    content.extend(fixed(MAGIC, 8))
-    return content
 
 
 def table_of(entries, interval, size, bits):
@@ -63,12 +52,12 @@ def table_of(entries, interval, size, bits):
     handles = []
     for keys, content in blocks:
         begins.append(len(out))
-        handles.append(append_block(out, content))
+        handles.append(append_sealed(out, content))
     meta = BlockWriter(interval)
     if bits > 0:
-        handle = append_block(out, filter_of(begins, block_keys, len(out), bits))
-        meta.put([ord(sign) for sign in FILTER_NAME], handle)
-    meta_handle = append_block(out, meta.content())
-    index_handle = append_block(out, index_content(block_keys, handles))
+        handle = append_sealed(out, filter_of(begins, block_keys, len(out), bits))
+        meta.put(filter_key(), handle.packed())
+    meta_handle = append_sealed(out, meta.content())
+    index_handle = append_sealed(out, index_content(block_keys, handles))
     out.extend(table_end(meta_handle, index_handle))
     return out

@@ -43,14 +43,32 @@ def crc32c(data, start=0):
     return left ^ 0xFFFFFFFF
 
 
+def left_by(byte):
+    """What a byte leaves behind in the sum."""
+    for _ in range(8):
+        byte = byte >> 1 ^ (0x82F63B78 if byte & 1 else 0)
+    return byte
+
+
+LEFT = [left_by(byte) for byte in range(256)]
+
+
+def crc32c_fast(data, start=0):
+    """CRC-32C byte by byte, for tests with much data."""
+    left = start ^ 0xFFFFFFFF
+    for byte in data:
+        left = left >> 8 ^ LEFT[(left ^ byte) & 255]
+    return left ^ 0xFFFFFFFF
+
+
 def masked(number):
     turned = int(format(number, "032b")[-15:] + format(number, "032b")[:-15], 2)
     return (turned + 0xA282EAD8) % WORD
 
 
-def sealed(content):
+def sealed(content, mark=0):
     """The five bytes behind a block or filter."""
-    return b"\0" + struct.pack("<I", masked(crc32c(bytes(content) + b"\0")))
+    return bytes([mark]) + struct.pack("<I", masked(crc32c_fast(bytes(content) + bytes([mark]))))
 
 
 def key_hash(key):

@@ -13,23 +13,51 @@ LONGEST = 16777216
 SMALL = rows_of([(b"", b"1"), (b"a", b""), (b"ab", b"22")])
 LARGE = rows_of([(b"%05d" % i, noise(i % 50, i + 1)) for i in range(2000)])
 UNSORTED = row(b"b", b"") + row(b"a", b"")
+TABLE = desk.make(2, 64, 10, LONGEST, SMALL)[1:]
+LARGE_TABLE = desk.make(16, 1000, 10, LONGEST, LARGE)[1:]
+NO_TABLE = TABLE[:-1]
+NOISE = list(noise(20000))
 
-# One of each kind of call: a function's name, its numbers, its list.
+PARAMETERS = {
+    "sum_of": ["start", "data"],
+    "make": ["interval", "block", "bits", "most", "rows"],
+    "count": ["table"],
+    "get": ["most", "table", "key"],
+}
+
+# One of each kind of call, with what it answers first; None where that's tested elsewhere.
 CALLS = [
-    ("sum_of", (0,), []),
-    ("sum_of", (4294967295,), []),
-    ("sum_of", (0,), list(range(256))),
-    ("sum_of", (3808858755,), list(noise(5000))),
-    ("make", (16, 4096, 10, LONGEST), []),
-    ("make", (16, 4096, 0, LONGEST), SMALL),
-    ("make", (1, 64, 20, LONGEST), SMALL),
-    ("make", (3, 100, 7, LONGEST), LARGE),
-    ("make", (0, 4096, 10, LONGEST), SMALL),
-    ("make", (16, 4096, 10, -1), UNSORTED),
-    ("make", (16, 4096, 10, LONGEST), UNSORTED),
-    ("make", (16, 4096, 10, LONGEST), SMALL[:-1]),
-    ("make", (16, 4096, 10, 100), LARGE),
+    ("sum_of", (0, []), 0),
+    ("sum_of", (4294967295, []), 4294967295),
+    ("sum_of", (0, list(range(256))), None),
+    ("sum_of", (3808858755, list(noise(5000))), None),
+    ("make", (16, 4096, 10, LONGEST, []), None),
+    ("make", (16, 4096, 0, LONGEST, SMALL), None),
+    ("make", (1, 64, 20, LONGEST, SMALL), None),
+    ("make", (3, 100, 7, LONGEST, LARGE), None),
+    ("make", (0, 4096, 10, LONGEST, SMALL), -2),
+    ("make", (16, 4096, 10, -1, UNSORTED), -2),
+    ("make", (16, 4096, 10, LONGEST, UNSORTED), -4),
+    ("make", (16, 4096, 10, LONGEST, SMALL[:-1]), -4),
+    ("make", (16, 4096, 10, 100, LARGE), -7),
+    ("count", ([],), -3),
+    ("count", (NO_TABLE,), -3),
+    ("count", (NOISE,), -3),
+    ("count", (TABLE,), 3),
+    ("count", (LARGE_TABLE,), 2000),
+    ("get", (10, TABLE, []), 1),
+    ("get", (10, TABLE, [97]), 0),
+    ("get", (10, TABLE, [97, 98]), 2),
+    ("get", (100, LARGE_TABLE, list(b"01049")), 49),
+    ("get", (10, TABLE, [97] * 65536), -2),
+    ("get", (-1, TABLE, [97]), -2),
+    ("get", (10, NO_TABLE, [97]), -3),
+    ("get", (10, NOISE, [97]), -3),
+    ("get", (10, TABLE, [98]), -5),
+    ("get", (1, TABLE, [97, 98]), -7),
 ]
+# What these answer is a number, then so many bytes.
+WITH_BYTES = ["make", "get"]
 
 
 class Watched(list):
@@ -42,73 +70,95 @@ class Watched(list):
     __setitem__ = __delitem__ = __iadd__ = __imul__ = refuse
 
 
-def answer(name, numbers, data):
-    return getattr(desk, name)(*numbers, data)
+def copied(arguments):
+    """The arguments with lists of their own."""
+    return [list(part) if isinstance(part, list) else part for part in arguments]
+
+
+def answer(name, arguments):
+    return getattr(desk, name)(*arguments)
 
 
 class NamesTest(unittest.TestCase):
     def test_parameters(self):
-        self.assertEqual(list(inspect.signature(desk.sum_of).parameters), ["start", "data"])
-        self.assertEqual(
-            list(inspect.signature(desk.make).parameters), ["interval", "block", "bits", "most", "rows"])
+        for name, parameters in PARAMETERS.items():
+            self.assertEqual(list(inspect.signature(getattr(desk, name)).parameters), parameters)
 
     def test_by_name(self):
-        self.assertEqual(desk.sum_of(data=[49], start=7), desk.sum_of(7, [49]))
-        self.assertEqual(
-            desk.make(rows=SMALL, most=300, bits=5, block=64, interval=2), desk.make(2, 64, 5, 300, SMALL))
+        for name, arguments, first in CALLS:
+            named = dict(reversed(list(zip(PARAMETERS[name], arguments))))
+            self.assertEqual(getattr(desk, name)(**named), answer(name, arguments))
+
+    def test_all_are_called_here(self):
+        self.assertEqual(list(dict.fromkeys(name for name, arguments, first in CALLS)), list(PARAMETERS))
 
 
 class EveryCallTest(unittest.TestCase):
     def test_kinds(self):
-        for name, numbers, data in CALLS:
-            given = answer(name, numbers, data)
+        for name, arguments, first in CALLS:
+            given = answer(name, arguments)
             self.assertIs(type(given), list)
             self.assertEqual({type(number) for number in given}, {int})
 
+    def test_what_is_answered_first(self):
+        for name, arguments, first in CALLS:
+            given = answer(name, arguments)
+            if first is None:
+                self.assertGreaterEqual(given[0], 0)
+            else:
+                self.assertEqual(given[0], first)
+
     def test_refused_by_the_number_alone(self):
-        refusals = [answer(*call) for call in CALLS if answer(*call)[0] < 0]
-        self.assertEqual(refusals, [[-2], [-2], [-4], [-4], [-7]])
+        for name, arguments, first in CALLS:
+            given = answer(name, arguments)
+            if given[0] < 0:
+                self.assertEqual(len(given), 1)
 
     def test_as_many_bytes_as_told(self):
-        for name, numbers, data in CALLS:
-            given = answer(name, numbers, data)
-            if name == "make" and given[0] >= 0:
+        for name, arguments, first in CALLS:
+            given = answer(name, arguments)
+            if name in WITH_BYTES and given[0] >= 0:
                 self.assertEqual(given[0], len(given) - 1)
                 self.assertTrue(all(0 <= number <= 255 for number in given[1:]))
+            elif name not in WITH_BYTES:
+                self.assertEqual(len(given), 1)
 
     def test_what_is_handed_in_stays(self):
-        for name, numbers, data in CALLS:
-            handed = list(data)
-            first = answer(name, numbers, handed)
-            self.assertEqual(handed, data)
-            self.assertEqual(answer(name, numbers, Watched(data)), first)
+        for name, arguments, first in CALLS:
+            handed = copied(arguments)
+            given = answer(name, handed)
+            self.assertEqual(handed, list(arguments))
+            watched = [Watched(part) if isinstance(part, list) else part for part in arguments]
+            self.assertEqual(answer(name, watched), given)
 
     def test_second_call_answers_the_same(self):
-        first = [answer(*call) for call in CALLS]
-        self.assertEqual([answer(*call) for call in CALLS], first)
-        self.assertEqual([answer(*call) for call in reversed(CALLS)], first[::-1])
+        first = [answer(*call[:2]) for call in CALLS]
+        self.assertEqual([answer(*call[:2]) for call in CALLS], first)
+        self.assertEqual([answer(*call[:2]) for call in reversed(CALLS)], first[::-1])
 
     def test_answers_are_their_own(self):
-        for name, numbers, data in CALLS:
-            handed = list(data)
-            first = answer(name, numbers, handed)
-            kept = list(first)
-            first.extend([1, 2, 3])
-            first[0] = 99
-            self.assertEqual(handed, data)
-            self.assertEqual(answer(name, numbers, handed), kept)
-            handed.append(1)
-            handed[0] = 255
-            self.assertEqual(answer(name, numbers, list(data)), kept)
+        for name, arguments, first in CALLS:
+            handed = copied(arguments)
+            given = answer(name, handed)
+            kept = list(given)
+            given.extend([1, 2, 3])
+            given[0] = 99
+            self.assertEqual(handed, list(arguments))
+            self.assertEqual(answer(name, handed), kept)
+            for part in handed:
+                if isinstance(part, list):
+                    part.append(1)
+                    part[0] = 255
+            self.assertEqual(answer(name, copied(arguments)), kept)
 
     def test_nothing_printed_read_or_imported(self):
         printed = io.StringIO()
         refuse = mock.Mock(side_effect=AssertionError("not asked for"))
-        for name, numbers, data in CALLS:
+        for name, arguments, first in CALLS:
             with contextlib.redirect_stdout(printed), contextlib.redirect_stderr(printed), \
                     mock.patch.object(builtins, "open", refuse), mock.patch.object(builtins, "input", refuse), \
                     mock.patch.object(builtins, "__import__", refuse):
-                answer(name, numbers, data)
+                answer(name, arguments)
         self.assertEqual(printed.getvalue(), "")
 
 
@@ -120,6 +170,9 @@ class LongTest(unittest.TestCase):
         self.assertLessEqual(len(rows), 100000)
         given = desk.make(1, block, 20, LONGEST, rows)
         self.assertEqual(Table(given).entries(), entries)
+        self.assertEqual(desk.count(given[1:]), [len(entries)])
+        key, value = entries[-1]
+        self.assertEqual(desk.get(LONGEST, given[1:], list(key)), [len(value)] + list(value))
 
     def test_many_rows(self):
         entries = [(i.to_bytes(2, "big"), b"") for i in range(12500)]

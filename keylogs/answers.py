@@ -4,6 +4,7 @@ OUT_OF_RANGE = -2
 NO_TABLE = -3
 NO_ROWS = -4
 NOT_THERE = -5
+KEY_TOO_LONG = -6
 TOO_LONG = -7
 
 

@@ -5,6 +5,7 @@ from keylogs.packing import fixed, number_at
 
 PLACE_WIDTH = 4
 END_WIDTH = 5
+MOST_PROBES = 30
 STRETCH_BITS = 11
 STRETCH = 2048
 WORD = 0xFFFFFFFF
@@ -39,7 +40,7 @@ def bit_places(key, probes, total):
 
 def probes_for(bits):
     """How many bits each key sets where there are so many bits for each key."""
-    return min(max(69 * bits // 100, 1), 30)
+    return min(max(69 * bits // 100, 1), MOST_PROBES)
 
 
 def piece_of(keys, bits):
@@ -98,3 +99,25 @@ def places_of(content):
         places.append(place)
         before = place
     return places
+
+
+def piece_may_have(piece, key):
+    """Whether a piece says that the key may be among those that it's of."""
+    if len(piece) < 2:
+        return False
+    probes = piece[-1]
+    if probes > MOST_PROBES:
+        return True
+    for place in bit_places(key, probes, 8 * (len(piece) - 1)):
+        if (piece[place // 8] >> (place % 8)) & 1 == 0:
+            return False
+    return True
+
+
+def filter_may_have(content, begin, key):
+    """Whether a filter says that the key may be in the data block that begins there."""
+    places = places_of(content)
+    stretch = begin // STRETCH
+    if stretch + 1 >= len(places):
+        return True
+    return piece_may_have(content[places[stretch]:places[stretch + 1]], key)

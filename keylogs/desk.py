@@ -1,12 +1,12 @@
 """The calls: each takes and answers whole numbers and lists of them, and keeps nothing."""
 
-from keylogs.answers import NO_ROWS, NO_TABLE, NOT_THERE, OUT_OF_RANGE, with_length
-from keylogs.asking import total_entries, value_of
+from keylogs.answers import KEY_TOO_LONG, NO_ROWS, NO_TABLE, NOT_THERE, OUT_OF_RANGE, with_length
+from keylogs.asking import entry_at, may_have, total_entries, value_of
 from keylogs.checksum import sum_from
 from keylogs.errors import NoTable
 from keylogs.limits import is_key_length, is_length, is_shape
 from keylogs.making import table_of
-from keylogs.rows import entries_of
+from keylogs.rows import entries_of, row_of
 
 
 def sum_of(start, data):
@@ -47,3 +47,28 @@ def get(most, table, key):
     if value is None:
         return [NOT_THERE]
     return with_length(value, most)
+
+
+def at(i, most, table):
+    """Entry i of the table as a row, its length ahead of it, or a refusal."""
+    if not (is_length(len(table)) and i >= 0 and is_length(most)):
+        return [OUT_OF_RANGE]
+    try:
+        entry = entry_at(table, i)
+    except NoTable:
+        return [NO_TABLE]
+    if entry is None:
+        return [NOT_THERE]
+    if not is_key_length(len(entry[0])):
+        return [KEY_TOO_LONG]
+    return with_length(row_of(entry[0], entry[1]), most)
+
+
+def may(table, key):
+    """1, if the key may be in the table, or 0, if its index or filter says that it isn't; or a refusal."""
+    if not (is_length(len(table)) and is_key_length(len(key))):
+        return [OUT_OF_RANGE]
+    try:
+        return [1 if may_have(table, key) else 0]
+    except NoTable:
+        return [NO_TABLE]

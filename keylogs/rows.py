@@ -1,6 +1,6 @@
 """Rows: entries one behind another, each with its lengths before it."""
 
-from keylogs.packing import number_at
+from keylogs.packing import fixed, number_at
 
 KEY_WIDTH = 2
 VALUE_WIDTH = 4
@@ -25,3 +25,8 @@ def entries_of(rows):
         entries.append((key, rows[value_begin:end]))
         begin = end
     return entries
+
+
+def row_of(key, value):
+    """The row of an entry."""
+    return fixed(len(key), KEY_WIDTH) + fixed(len(value), VALUE_WIDTH) + key + value

@@ -81,6 +81,13 @@ def key_hash(key):
     return h
 
 
+def bits_of(key, probes, total):
+    """The bits that are 1 of a key, of so many."""
+    h = key_hash(key)
+    d = int(format(h, "032b")[-17:] + format(h, "032b")[:-17], 2)
+    return [(h + j * d) % WORD % total for j in range(probes)]
+
+
 def bloom_piece(keys, bits):
     """The filter's piece of these keys."""
     if not keys:
@@ -89,10 +96,8 @@ def bloom_piece(keys, bits):
     probes = max(1, 69 * bits // 100)
     number = 0
     for key in keys:
-        h = key_hash(key)
-        d = int(format(h, "032b")[-17:] + format(h, "032b")[:-17], 2)
-        for j in range(probes):
-            number |= 1 << (h + j * d) % WORD % (8 * size)
+        for bit in bits_of(key, probes, 8 * size):
+            number |= 1 << bit
     return number.to_bytes(size, "little") + bytes([probes])
 
 

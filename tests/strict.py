@@ -4,7 +4,7 @@ Nothing here draws on the package, so that both must agree with the document.
 """
 import struct
 
-from tests.helper import FILTER_NAME, MAGIC, sealed
+from tests.helper import FILTER_NAME, MAGIC, bits_of, sealed
 
 
 class Fault(Exception):
@@ -110,6 +110,21 @@ class Strict:
 
     def entries(self):
         return [pair for key, begin, entries in self.index for pair in entries]
+
+    def may(self, key):
+        """What the index and the filter say of a key."""
+        begins = [begin for index_key, begin, entries in self.index if index_key >= key]
+        if not begins:
+            return 0
+        if self.pieces is None or begins[0] // 2048 >= len(self.pieces):
+            return 1
+        piece = self.pieces[begins[0] // 2048]
+        if len(piece) < 2:
+            return 0
+        if piece[-1] > 30:
+            return 1
+        number = int.from_bytes(piece[:-1], "little")
+        return int(all(number >> bit & 1 for bit in bits_of(key, piece[-1], 8 * len(piece) - 8)))
 
 
 def strict(table):

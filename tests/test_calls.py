@@ -7,6 +7,7 @@ import unittest
 from unittest import mock
 
 from keylogs import desk
+from tests.forge import table_of
 from tests.helper import Table, noise, row, rows_of
 
 LONGEST = 16777216
@@ -16,6 +17,7 @@ UNSORTED = row(b"b", b"") + row(b"a", b"")
 TABLE = desk.make(2, 64, 10, LONGEST, SMALL)[1:]
 LARGE_TABLE = desk.make(16, 1000, 10, LONGEST, LARGE)[1:]
 NO_TABLE = TABLE[:-1]
+LONG_KEY = table_of([[(b"k" * 65536, b"")]])
 NOISE = list(noise(20000))
 
 PARAMETERS = {
@@ -23,6 +25,8 @@ PARAMETERS = {
     "make": ["interval", "block", "bits", "most", "rows"],
     "count": ["table"],
     "get": ["most", "table", "key"],
+    "at": ["i", "most", "table"],
+    "may": ["table", "key"],
 }
 
 # One of each kind of call, with what it answers first; None where that's tested elsewhere.
@@ -55,9 +59,27 @@ CALLS = [
     ("get", (10, NOISE, [97]), -3),
     ("get", (10, TABLE, [98]), -5),
     ("get", (1, TABLE, [97, 98]), -7),
+    ("at", (0, 100, TABLE), 7),
+    ("at", (2, 100, TABLE), 10),
+    ("at", (1999, 100, LARGE_TABLE), 60),
+    ("at", (-1, 100, NO_TABLE), -2),
+    ("at", (0, -1, TABLE), -2),
+    ("at", (0, 100, NO_TABLE), -3),
+    ("at", (0, 100, NOISE), -3),
+    ("at", (3, 100, TABLE), -5),
+    ("at", (0, 100000, LONG_KEY), -6),
+    ("at", (2, 9, TABLE), -7),
+    ("may", (TABLE, []), 1),
+    ("may", (TABLE, [97, 98]), 1),
+    ("may", (TABLE, [97, 97]), 0),
+    ("may", (TABLE, [98] * 65535), 0),
+    ("may", (LARGE_TABLE, list(b"01049")), 1),
+    ("may", (TABLE, [98] * 65536), -2),
+    ("may", (NO_TABLE, [97]), -3),
+    ("may", (NOISE, [97]), -3),
 ]
 # What these answer is a number, then so many bytes.
-WITH_BYTES = ["make", "get"]
+WITH_BYTES = ["make", "get", "at"]
 
 
 class Watched(list):
@@ -173,6 +195,9 @@ class LongTest(unittest.TestCase):
         self.assertEqual(desk.count(given[1:]), [len(entries)])
         key, value = entries[-1]
         self.assertEqual(desk.get(LONGEST, given[1:], list(key)), [len(value)] + list(value))
+        last = row(key, value)
+        self.assertEqual(desk.at(len(entries) - 1, LONGEST, given[1:]), [len(last)] + last)
+        self.assertEqual(desk.may(given[1:], list(key)), [1])
 
     def test_many_rows(self):
         entries = [(i.to_bytes(2, "big"), b"") for i in range(12500)]

@@ -3,6 +3,7 @@ import unittest
 
 from keylogs import desk
 from tests.chance import keys_by, table_by
+from tests.helper import row
 from tests.strict import strict
 
 TOTAL = 1500
@@ -35,6 +36,35 @@ class ChanceTest(unittest.TestCase):
         if value is None:
             return [-5]
         return [-7] if len(value) > 8 else [len(value)] + list(value)
+
+    def test_at(self):
+        for seed in range(TOTAL // 5):
+            table = table_by(seed)
+            read = strict(table)
+            for i in range(14):
+                with self.subTest(seed=seed, i=i):
+                    self.assertEqual(desk.at(i, 20, table), self.wanted_row(read, i))
+
+    def wanted_row(self, read, i):
+        if read is None:
+            return [-3]
+        entries = read.entries()
+        if i >= len(entries):
+            return [-5]
+        wanted = row(*entries[i])
+        return [-7] if len(wanted) > 20 else [len(wanted)] + wanted
+
+    def test_may(self):
+        said = []
+        for seed in range(TOTAL // 5):
+            table = table_by(seed)
+            read = strict(table)
+            for key in keys_by(seed, read):
+                with self.subTest(seed=seed, key=key):
+                    given = desk.may(table, list(key))
+                    self.assertEqual(given, [-3] if read is None else [read.may(key)])
+                    said.extend(given)
+        self.assertEqual(sorted(set(said)), [-3, 0, 1])
 
 
 if __name__ == "__main__":

@@ -93,7 +93,7 @@ class BlockReader:
 
 def restarts_of(block):
     """A block's restarts: at least one, the first 0, each after the one before it."""
-    if len(block) < 2 * NUMBER_WIDTH:
+    if len(block) < NUMBER_WIDTH:
         raise NoTable()
     total = number_at(block, len(block) - NUMBER_WIDTH, NUMBER_WIDTH)
     begin = len(block) - NUMBER_WIDTH * (total + 1)

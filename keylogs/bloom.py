@@ -1,6 +1,7 @@
 """The filter: for each stretch of the file a piece that tells which keys may be there."""
 
 from keylogs.errors import NoTable
+from keylogs.hashing import WORD, key_hash, key_hashes
 from keylogs.packing import fixed, number_at
 
 PLACE_WIDTH = 4
@@ -8,29 +9,64 @@ END_WIDTH = 5
 MOST_PROBES = 30
 STRETCH_BITS = 11
 STRETCH = 2048
-WORD = 0xFFFFFFFF
-HASH_BEGIN = 0xBC9F1D34
-HASH_FACTOR = 0xC6A4A793
+# How many keys are hashed together.
+TOGETHER = 128
 
 
-def key_hash(key):
-    """The words' h of a key."""
-    mixed = HASH_BEGIN ^ ((len(key) * HASH_FACTOR) & WORD)
-    over = len(key) % 4
-    whole = len(key) - over
-    for begin in range(0, whole, 4):
-        mixed = ((mixed + number_at(key, begin, 4)) * HASH_FACTOR) & WORD
-        mixed = mixed ^ (mixed >> 16)
-    if over > 0:
-        mixed = ((mixed + number_at(key, whole, over)) * HASH_FACTOR) & WORD
-        mixed = mixed ^ (mixed >> 24)
-    return mixed
+class FilterWriter:
+    """A filter that keys are put into, data block by data block."""
+
+    def __init__(self, bits):
+        self.bits = bits
+        self.unhashed = []
+        self.hashes = []
+        self.blocks = []
+
+    def put(self, key):
+        """Puts a key in; it comes behind all keys so far."""
+        self.unhashed.append(key)
+        if len(self.unhashed) == TOGETHER:
+            self.hash_keys()
+
+    def hash_keys(self):
+        """Hashes alone are kept, for the keys may be long."""
+        self.hashes.extend(key_hashes(self.unhashed))
+        self.unhashed = []
+
+    def end_block(self, begin):
+        """The keys since the block before are those of a data block that begins there."""
+        self.blocks.append((begin, len(self.hashes) + len(self.unhashed)))
+
+    def hashes_by_piece(self, end):
+        """The hashes of each piece's keys, of data blocks that have ended at end."""
+        pieces = [[] for stretch in range(end // STRETCH)]
+        if self.blocks != [] and self.blocks[-1][0] // STRETCH == len(pieces):
+            pieces.append([])
+        first = 0
+        for begin, behind in self.blocks:
+            pieces[begin // STRETCH].extend(self.hashes[first:behind])
+            first = behind
+        return pieces
+
+    def content(self, end):
+        """The filter's bytes, of data blocks that have ended at end."""
+        self.hash_keys()
+        content = []
+        places = []
+        for hashes in self.hashes_by_piece(end):
+            places.append(len(content))
+            content.extend(piece_of(hashes, self.bits))
+        places_begin = len(content)
+        for place in places + [places_begin]:
+            content.extend(fixed(place, PLACE_WIDTH))
+        content.append(STRETCH_BITS)
+        return content
 
 
-def bit_places(key, probes, total):
-    """Which of a piece's bits, total of them, a key sets."""
-    place = key_hash(key)
-    step = (place >> 17) | ((place << 15) & WORD)
+def bit_places(mixed, probes, total):
+    """Which of a piece's bits, total of them, a key with that hash sets."""
+    place = mixed
+    step = (mixed >> 17) | ((mixed << 15) & WORD)
     places = []
     for probe in range(probes):
         places.append(place % total)
@@ -43,42 +79,18 @@ def probes_for(bits):
     return min(max(69 * bits // 100, 1), MOST_PROBES)
 
 
-def piece_of(keys, bits):
-    """The piece of these keys with so many bits for each."""
-    if keys == []:
+def piece_of(hashes, bits):
+    """The piece of keys with these hashes, with so many bits for each."""
+    if hashes == []:
         return []
-    size = (max(64, len(keys) * bits) + 7) // 8
+    size = (max(64, len(hashes) * bits) + 7) // 8
     probes = probes_for(bits)
     piece = [0] * size
-    for key in keys:
-        for place in bit_places(key, probes, 8 * size):
+    for mixed in hashes:
+        for place in bit_places(mixed, probes, 8 * size):
             piece[place // 8] = piece[place // 8] | (1 << (place % 8))
     piece.append(probes)
     return piece
-
-
-def keys_by_piece(begins, block_keys, end):
-    """The keys of each piece, of data blocks that begin at begins and end at end."""
-    pieces = [[] for stretch in range(end // STRETCH)]
-    if begins != [] and begins[-1] // STRETCH == len(pieces):
-        pieces.append([])
-    for begin, keys in zip(begins, block_keys):
-        pieces[begin // STRETCH].extend(keys)
-    return pieces
-
-
-def filter_of(begins, block_keys, end, bits):
-    """The filter of data blocks that begin at begins, have these keys and end at end."""
-    content = []
-    places = []
-    for keys in keys_by_piece(begins, block_keys, end):
-        places.append(len(content))
-        content.extend(piece_of(keys, bits))
-    places_begin = len(content)
-    for place in places + [places_begin]:
-        content.extend(fixed(place, PLACE_WIDTH))
-    content.append(STRETCH_BITS)
-    return content
 
 
 def places_of(content):
@@ -108,7 +120,7 @@ def piece_may_have(piece, key):
     probes = piece[-1]
     if probes > MOST_PROBES:
         return True
-    for place in bit_places(key, probes, 8 * (len(piece) - 1)):
+    for place in bit_places(key_hash(key), probes, 8 * (len(piece) - 1)):
         if (piece[place // 8] >> (place % 8)) & 1 == 0:
             return False
     return True

@@ -5,7 +5,9 @@ from keylogs.asking import entry_at, may_have, total_entries, value_of
 from keylogs.checksum import sum_from
 from keylogs.errors import NoTable
 from keylogs.limits import is_key_length, is_length, is_shape
-from keylogs.making import table_of
+from keylogs.logs import record_at
+from keylogs.making import made_table
+from keylogs.merging import files_of, merged_table
 from keylogs.rows import entries_of, row_of
 
 
@@ -23,7 +25,7 @@ def make(interval, block, bits, most, rows):
     entries = entries_of(rows)
     if entries is None:
         return [NO_ROWS]
-    return with_length(table_of(entries, interval, block, bits), most)
+    return made_table(entries, interval, block, bits, most)
 
 
 def count(table):
@@ -72,3 +74,20 @@ def may(table, key):
         return [1 if may_have(table, key) else 0]
     except NoTable:
         return [NO_TABLE]
+
+
+def merge(interval, block, bits, most, files):
+    """The table of all the files' entries, its length ahead of it, or a refusal."""
+    if not (is_length(len(files)) and is_length(most) and is_shape(interval, block, bits)):
+        return [OUT_OF_RANGE]
+    try:
+        return merged_table(files_of(files), interval, block, bits, most)
+    except NoTable:
+        return [NO_TABLE]
+
+
+def write(place, most, data):
+    """What's to be written for a record at a place in a log, its length ahead of it, or a refusal."""
+    if not (is_length(len(data)) and place >= 0 and is_length(most)):
+        return [OUT_OF_RANGE]
+    return with_length(record_at(place, data), most)

@@ -44,14 +44,6 @@ def seal_of(content):
     return [0] + fixed(masked(sum_from(sum_from(0, content), [0])), 4)
 
 
-def append_sealed(out, content):
-    """Puts content and the five bytes behind it at the end of out; gives back its handle."""
-    handle = Handle(len(out), len(content))
-    out.extend(content)
-    out.extend(seal_of(content))
-    return handle
-
-
 def content_at(file, end, handle):
     """What a handle tells of; it and its five bytes are ahead of end."""
     if handle.behind() > end:

@@ -21,6 +21,11 @@ def rows_of(entries):
     return rows
 
 
+def files_of(*tables):
+    """The tables as files, each with its length before it."""
+    return [number for table in tables for number in list(struct.pack("<I", len(table))) + table]
+
+
 def noise(count, seed=1):
     """So many bytes that look like chance and are always the same."""
     state = seed

@@ -7,8 +7,8 @@ import unittest
 from unittest import mock
 
 from keylogs import desk
-from tests.forge import table_of
-from tests.helper import Table, noise, row, rows_of
+from tests.forge import entry, packed, table_of
+from tests.helper import Table, files_of, noise, row, rows_of
 
 LONGEST = 16777216
 SMALL = rows_of([(b"", b"1"), (b"a", b""), (b"ab", b"22")])
@@ -18,7 +18,10 @@ TABLE = desk.make(2, 64, 10, LONGEST, SMALL)[1:]
 LARGE_TABLE = desk.make(16, 1000, 10, LONGEST, LARGE)[1:]
 NO_TABLE = TABLE[:-1]
 LONG_KEY = table_of([[(b"k" * 65536, b"")]])
+FILES = files_of(TABLE, LARGE_TABLE, TABLE)
 NOISE = list(noise(20000))
+FAR_TOO_LONG = files_of(
+    table_of([packed([entry(0, b"k" * 20000)] + [entry(20000 + i, b"k") for i in range(3000)])], [b"l"]))
 
 PARAMETERS = {
     "sum_of": ["start", "data"],
@@ -27,6 +30,8 @@ PARAMETERS = {
     "get": ["most", "table", "key"],
     "at": ["i", "most", "table"],
     "may": ["table", "key"],
+    "merge": ["interval", "block", "bits", "most", "files"],
+    "write": ["place", "most", "data"],
 }
 
 # One of each kind of call, with what it answers first; None where that's tested elsewhere.
@@ -77,9 +82,25 @@ CALLS = [
     ("may", (TABLE, [98] * 65536), -2),
     ("may", (NO_TABLE, [97]), -3),
     ("may", (NOISE, [97]), -3),
+    ("merge", (16, 4096, 10, LONGEST, []), None),
+    ("merge", (1, 64, 0, LONGEST, files_of(TABLE)), None),
+    ("merge", (5, 500, 7, LONGEST, FILES), None),
+    ("merge", (16, 4096, 21, LONGEST, FILES), -2),
+    ("merge", (16, 4096, 10, -1, NOISE), -2),
+    ("merge", (16, 4096, 10, LONGEST, FILES[:-1]), -3),
+    ("merge", (16, 4096, 10, 0, FILES + [0]), -3),
+    ("merge", (16, 4096, 10, LONGEST, NOISE), -3),
+    ("merge", (16, 4096, 10, 1000, FILES), -7),
+    ("merge", (1, 4096, 10, 1000000, FAR_TOO_LONG), -7),
+    ("write", (0, 100, []), 7),
+    ("write", (32765, 100, [1, 2, 3]), 13),
+    ("write", (2147483647, LONGEST, NOISE * 5), 100029),
+    ("write", (-1, 100, []), -2),
+    ("write", (0, -1, NOISE), -2),
+    ("write", (0, 20000, NOISE), -7),
 ]
 # What these answer is a number, then so many bytes.
-WITH_BYTES = ["make", "get", "at"]
+WITH_BYTES = ["make", "get", "at", "merge", "write"]
 
 
 class Watched(list):
@@ -182,6 +203,30 @@ class EveryCallTest(unittest.TestCase):
                     mock.patch.object(builtins, "__import__", refuse):
                 answer(name, arguments)
         self.assertEqual(printed.getvalue(), "")
+
+
+class TooManyTest(unittest.TestCase):
+    """Bytes of which there are more than may be, or just as many."""
+
+    def test_one_too_many(self):
+        many = [0] * (LONGEST + 1)
+        self.assertEqual(desk.sum_of(7, many), [0])
+        self.assertEqual(desk.make(16, 4096, 10, 100, many), [-2])
+        self.assertEqual(desk.count(many), [-2])
+        self.assertEqual(desk.get(100, many, []), [-2])
+        self.assertEqual(desk.at(0, 100, many), [-2])
+        self.assertEqual(desk.may(many, []), [-2])
+        self.assertEqual(desk.merge(16, 4096, 10, 100, many), [-2])
+        self.assertEqual(desk.write(0, 100, many), [-2])
+
+    def test_just_as_many(self):
+        many = [0] * LONGEST
+        self.assertEqual(desk.make(16, 4096, 10, 100, many), [-4])
+        self.assertEqual(desk.count(many), [-3])
+        self.assertEqual(desk.get(100, many, []), [-3])
+        self.assertEqual(desk.at(0, 100, many), [-3])
+        self.assertEqual(desk.may(many, []), [-3])
+        self.assertEqual(desk.merge(16, 4096, 10, 100, [255] * LONGEST), [-3])
 
 
 class LongTest(unittest.TestCase):

@@ -305,6 +305,19 @@ class BlockTest(RefusalsTest):
         self.refused(self.in_data(packed([bytes(4)], [4], 2)))
         self.refused(self.in_data(packed([], [0], 0)))
 
+    def test_restarts_that_are_cut(self):
+        # So many restarts are told, but one to three bytes of the first aren't there.
+        for count in (1, 2, 3):
+            restarts = struct.pack(f"<{count}I", *range(0, 3 * count, 3)) + struct.pack("<I", count)
+            for missing in (1, 2, 3):
+                content = restarts[missing:]
+                self.refused(self.in_data(content))
+                file = File()
+                right = file.put(block([]))
+                wrong = file.put(content)
+                self.refused(file.ended(right, wrong))
+                self.refused(file.ended(wrong, right))
+
     def test_lengths_below_the_least(self):
         for length in range(8):
             content = bytes(length)

@@ -1,11 +1,12 @@
 """The calls: each takes and answers whole numbers and lists of them, and keeps nothing."""
 
-from keylogs.answers import KEY_TOO_LONG, NO_ROWS, NO_TABLE, NOT_THERE, OUT_OF_RANGE, with_length
+from keylogs.answers import KEY_TOO_LONG, LOG_DAMAGED, LOG_ENDS, NO_ROWS, NO_TABLE, NOT_THERE, OUT_OF_RANGE
+from keylogs.answers import TOO_LONG, with_length
 from keylogs.asking import entry_at, may_have, total_entries, value_of
 from keylogs.checksum import sum_from
-from keylogs.errors import NoTable
-from keylogs.limits import is_key_length, is_length, is_shape
-from keylogs.logs import record_at
+from keylogs.errors import LogDamaged, LogEnds, NoTable
+from keylogs.limits import is_key_length, is_length, is_shape, within
+from keylogs.logs import record_at, record_from
 from keylogs.making import made_table
 from keylogs.merging import files_of, merged_table
 from keylogs.rows import entries_of, row_of
@@ -91,3 +92,20 @@ def write(place, most, data):
     if not (is_length(len(data)) and place >= 0 and is_length(most)):
         return [OUT_OF_RANGE]
     return with_length(record_at(place, data), most)
+
+
+def read(place, most, log):
+    """The record that begins at a place in a log, its length ahead of it and the next place behind it, or a refusal."""
+    if not (is_length(len(log)) and within(place, 0, len(log)) and is_length(most)):
+        return [OUT_OF_RANGE]
+    try:
+        found = record_from(log, place)
+    except LogEnds:
+        return [LOG_ENDS]
+    except LogDamaged:
+        return [LOG_DAMAGED]
+    record = found[0]
+    end = found[1]
+    if len(record) > most:
+        return [TOO_LONG]
+    return [len(record)] + record + [end]

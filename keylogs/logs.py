@@ -1,7 +1,8 @@
 """Logs: records in pieces, no piece over the end of a block."""
 
 from keylogs.checksum import masked, sum_from
-from keylogs.packing import fixed
+from keylogs.errors import LogDamaged, LogEnds
+from keylogs.packing import fixed, number_at
 
 BLOCK = 32768
 SUM_WIDTH = 4
@@ -12,6 +13,15 @@ WHOLE = 1
 FIRST = 2
 MIDDLE = 3
 LAST = 4
+
+
+class Piece:
+    """A piece of a record, read from a log, and where it has ended there."""
+
+    def __init__(self, kind, data, end):
+        self.kind = kind
+        self.data = data
+        self.end = end
 
 
 def left_in_block(place):
@@ -53,3 +63,38 @@ def record_at(place, record):
         is_first = False
         begin = end
     return out
+
+
+def piece_at(log, place):
+    """The piece that begins at a place in a log, or in the next block, if it has no room there."""
+    begin = place
+    if left_in_block(place) < HEAD_WIDTH:
+        begin = place + left_in_block(place)
+    data_begin = begin + HEAD_WIDTH
+    if data_begin > len(log):
+        raise LogEnds()
+    end = data_begin + number_at(log, begin + SUM_WIDTH, LENGTH_WIDTH)
+    if end - begin > left_in_block(begin):
+        raise LogDamaged()
+    if end > len(log):
+        raise LogEnds()
+    kind = log[data_begin - 1]
+    data = log[data_begin:end]
+    if number_at(log, begin, SUM_WIDTH) != piece_sum(kind, data):
+        raise LogDamaged()
+    return Piece(kind, data, end)
+
+
+def record_from(log, place):
+    """The record that begins at a place in a log, and where it has ended."""
+    record = []
+    end = place
+    kinds = (WHOLE, FIRST)
+    while kinds != ():
+        piece = piece_at(log, end)
+        if piece.kind not in kinds:
+            raise LogDamaged()
+        record.extend(piece.data)
+        end = piece.end
+        kinds = (MIDDLE, LAST) if piece.kind in (FIRST, MIDDLE) else ()
+    return (record, end)

@@ -1,6 +1,6 @@
 """A table is made of entries."""
 
-from keylogs.answers import TOO_LONG, with_length
+from keylogs.answers import TOO_LONG
 from keylogs.blocks import BlockWriter
 from keylogs.bloom import FilterWriter
 from keylogs.handles import Handle, seal_of
@@ -86,10 +86,11 @@ class TableWriter:
 
 def finished_table(writer, most):
     """How long a writer's table is, and it; a refusal, if it's longer than most."""
+    total = writer.finish()
     # Sums are taken only of a table that isn't too long, for that's slow.
-    if writer.finish() > most:
+    if total > most:
         return [TOO_LONG]
-    return with_length(writer.content(), most)
+    return [total] + writer.content()
 
 
 def made_table(entries, interval, size, bits, most):

@@ -20,6 +20,7 @@ NO_TABLE = TABLE[:-1]
 LONG_KEY = table_of([[(b"k" * 65536, b"")]])
 FILES = files_of(TABLE, LARGE_TABLE, TABLE)
 NOISE = list(noise(20000))
+LOG = desk.write(0, 10, [1, 2, 3])[1:] + desk.write(10, 7, [])[1:] + desk.write(17, LONGEST, NOISE * 4)[1:]
 FAR_TOO_LONG = files_of(
     table_of([packed([entry(0, b"k" * 20000)] + [entry(20000 + i, b"k") for i in range(3000)])], [b"l"]))
 
@@ -32,6 +33,7 @@ PARAMETERS = {
     "may": ["table", "key"],
     "merge": ["interval", "block", "bits", "most", "files"],
     "write": ["place", "most", "data"],
+    "read": ["place", "most", "log"],
 }
 
 # One of each kind of call, with what it answers first; None where that's tested elsewhere.
@@ -98,9 +100,20 @@ CALLS = [
     ("write", (-1, 100, []), -2),
     ("write", (0, -1, NOISE), -2),
     ("write", (0, 20000, NOISE), -7),
+    ("read", (0, 100, LOG), 3),
+    ("read", (10, 100, LOG), 0),
+    ("read", (17, LONGEST, LOG), 80000),
+    ("read", (-1, 100, LOG), -2),
+    ("read", (len(LOG) + 1, 100, LOG), -2),
+    ("read", (0, -1, NOISE), -2),
+    ("read", (len(LOG), 100, LOG), -3),
+    ("read", (17, 100, LOG[:-1]), -3),
+    ("read", (1, 100, LOG), -4),
+    ("read", (0, 100, NOISE), -4),
+    ("read", (17, 79999, LOG), -7),
 ]
-# What these answer is a number, then so many bytes.
-WITH_BYTES = ["make", "get", "at", "merge", "write"]
+# What's answered behind the number that comes first: so many bytes, and how many numbers behind them.
+BEHIND_BYTES = {"make": 0, "get": 0, "at": 0, "merge": 0, "write": 0, "read": 1}
 
 
 class Watched(list):
@@ -160,10 +173,10 @@ class EveryCallTest(unittest.TestCase):
     def test_as_many_bytes_as_told(self):
         for name, arguments, first in CALLS:
             given = answer(name, arguments)
-            if name in WITH_BYTES and given[0] >= 0:
-                self.assertEqual(given[0], len(given) - 1)
-                self.assertTrue(all(0 <= number <= 255 for number in given[1:]))
-            elif name not in WITH_BYTES:
+            if name in BEHIND_BYTES and given[0] >= 0:
+                self.assertEqual(len(given), 1 + given[0] + BEHIND_BYTES[name])
+                self.assertTrue(all(0 <= number <= 255 for number in given[1:1 + given[0]]))
+            else:
                 self.assertEqual(len(given), 1)
 
     def test_what_is_handed_in_stays(self):
@@ -218,6 +231,7 @@ class TooManyTest(unittest.TestCase):
         self.assertEqual(desk.may(many, []), [-2])
         self.assertEqual(desk.merge(16, 4096, 10, 100, many), [-2])
         self.assertEqual(desk.write(0, 100, many), [-2])
+        self.assertEqual(desk.read(0, 100, many), [-2])
 
     def test_just_as_many(self):
         many = [0] * LONGEST
@@ -227,6 +241,7 @@ class TooManyTest(unittest.TestCase):
         self.assertEqual(desk.at(0, 100, many), [-3])
         self.assertEqual(desk.may(many, []), [-3])
         self.assertEqual(desk.merge(16, 4096, 10, 100, [255] * LONGEST), [-3])
+        self.assertEqual(desk.read(0, 100, many), [-4])
 
 
 class LongTest(unittest.TestCase):
@@ -255,6 +270,11 @@ class LongTest(unittest.TestCase):
 
     def test_long_value(self):
         self.made([(b"k", noise(99993))], 64)
+
+    def test_long_record(self):
+        data = list(noise(100000))
+        log = desk.write(0, LONGEST, data)[1:]
+        self.assertEqual(desk.read(0, LONGEST, log), [100000] + data + [len(log)])
 
 
 if __name__ == "__main__":

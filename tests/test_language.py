@@ -151,6 +151,33 @@ class LanguageTest(unittest.TestCase):
                     own.add(node.attr)
         self.each(lambda text, tree: self.check_methods(tree, own))
 
+    def test_methods_and_values(self):
+        methods = set()
+        values = set()
+        for path in FILES:
+            for node in ast.walk(ast.parse(path.read_text(encoding="utf-8"))):
+                if isinstance(node, ast.ClassDef):
+                    names = [part.name for part in node.body if isinstance(part, ast.FunctionDef)]
+                    self.assertEqual(len(names), len(set(names)))
+                    methods.update(names)
+                if isinstance(node, ast.Attribute) and isinstance(node.ctx, ast.Store):
+                    values.add(node.attr)
+        self.assertEqual(methods & values, set())
+        taken = {name for kind in (str, int, list, tuple, dict, set, frozenset, bytes) for name in dir(kind)}
+        self.assertEqual(values & taken, set())
+        self.assertEqual(methods & taken - set(TWO_UNDERSCORES), set())
+
+    def test_no_circle_of_imports(self):
+        drawn = {}
+        for path in FILES:
+            tree = ast.parse(path.read_text(encoding="utf-8"))
+            drawn[path.stem] = {node.module.split(".")[1] for node in tree.body if isinstance(node, ast.ImportFrom)}
+        while drawn:
+            free = [name for name, others in drawn.items() if not others & set(drawn)]
+            self.assertNotEqual(free, [])
+            for name in free:
+                drawn.pop(name)
+
     def check_methods(self, tree, own):
         for node in ast.walk(tree):
             if isinstance(node, ast.Attribute):

@@ -198,8 +198,12 @@ class NoTableTest(unittest.TestCase):
     def test_a_fault_behind_much(self):
         far_too_long = packed([entry(0, b"k" * 20000)] + [entry(20000 + i, b"k") for i in range(2000)])
         right = table_of([far_too_long], [b"l"])
-        wrong = table_of([packed([entry(0, b"b"), entry(0, b"a")])], [b"z"])
-        self.refused(files_of(right, wrong))
+        for first in (b"a", b"k" * 20000, b"m"):
+            # The fault comes behind all that's right.
+            wrong = table_of([[(first, b"1")], packed([entry(0, b"z"), entry(0, b"y")])], [first, b"z"])
+            self.refused(files_of(wrong))
+            self.refused(files_of(right, wrong))
+            self.refused(files_of(wrong, right))
         self.assertEqual(desk.merge(1, 4096, 10, LONGEST, files_of(right, EMPTY)), [-7])
 
 

@@ -103,10 +103,10 @@ def places_of(content):
         raise NoTable()
     places = []
     before = 0
-    # The number at the end, where the places begin, is also where the last piece has ended.
+    # Where the places begin is told behind them; that's where the last piece has ended, so none may lie past it.
     for begin in range(told, end + 1, PLACE_WIDTH):
         place = number_at(content, begin, PLACE_WIDTH)
-        if place < before or place > told:
+        if place < before:
             raise NoTable()
         places.append(place)
         before = place

@@ -76,6 +76,12 @@ def sealed(content, mark=0):
     return bytes([mark]) + struct.pack("<I", masked(crc32c_fast(bytes(content) + bytes([mark]))))
 
 
+def log_piece(kind, content, change=0, length=None):
+    """A piece of a record in a log, its sum perhaps changed; a length may be told that isn't its own."""
+    seal = masked(crc32c_fast(bytes([kind]) + content)) ^ change
+    return struct.pack("<IHB", seal, len(content) if length is None else length, kind) + content
+
+
 def key_hash(key):
     """The words' h."""
     h = 0xBC9F1D34 ^ len(key) * 0xC6A4A793 % WORD

@@ -241,6 +241,15 @@ class BlockTest(RefusalsTest):
     def in_data(self, content, last=b"z"):
         return table_of([content], [last])
 
+    def refused_as_any(self, content):
+        """The content is refused as a data block, as the index and as the meta block."""
+        self.refused(self.in_data(content))
+        file = File()
+        right = file.put(block([]))
+        wrong = file.put(content)
+        self.refused(file.ended(right, wrong))
+        self.refused(file.ended(wrong, right))
+
     def test_as_it_is(self):
         parts = [entry(0, b"a"), entry(1, b"b"), entry(0, b"b")]
         self.counted(self.in_data(packed(parts, [0, 8])), 3)
@@ -310,27 +319,12 @@ class BlockTest(RefusalsTest):
         for count in (1, 2, 3):
             restarts = struct.pack(f"<{count}I", *range(0, 3 * count, 3)) + struct.pack("<I", count)
             for missing in (1, 2, 3):
-                content = restarts[missing:]
-                self.refused(self.in_data(content))
-                file = File()
-                right = file.put(block([]))
-                wrong = file.put(content)
-                self.refused(file.ended(right, wrong))
-                self.refused(file.ended(wrong, right))
+                self.refused_as_any(restarts[missing:])
 
     def test_lengths_below_the_least(self):
         for length in range(8):
-            content = bytes(length)
-            self.refused(self.in_data(content))
-            file = File()
-            meta = file.put(block([]))
-            wrong = file.put(content)
-            self.refused(file.ended(meta, wrong))
-            self.refused(file.ended(wrong, meta))
-            one_restart = (b"\0" * 4 + b"\1\0\0\0")[-length:] if length > 0 else b""
-            wrong = file.put(one_restart)
-            self.refused(file.ended(meta, wrong))
-            self.refused(file.ended(wrong, meta))
+            self.refused_as_any(bytes(length))
+            self.refused_as_any((bytes(4) + b"\1\0\0\0")[8 - length:])
 
     def test_empty_blocks(self):
         file = File()
@@ -338,9 +332,7 @@ class BlockTest(RefusalsTest):
         self.counted(file.ended(right, right), 0)
         for content in (packed([], []), packed([], [1]), packed([], [8]), packed([], [0, 0]), packed([], [0, 1]),
                         packed([], [0, 4]), packed([], [0, 8]), packed([], [0], 0), packed([], [0], 2)):
-            wrong = file.put(content)
-            self.refused(file.ended(right, wrong))
-            self.refused(file.ended(wrong, right))
+            self.refused_as_any(content)
 
     def test_empty_data_block(self):
         self.refused(self.in_data(packed([])))
@@ -352,12 +344,7 @@ class BlockTest(RefusalsTest):
     def test_right_sum_over_what_is_no_block(self):
         for content in (b"", b"\0", noise(7), noise(8), noise(100), noise(5000), bytes(100), b"\xff" * 100,
                         bytes(96) + b"\1\0\0\0", filter_of([b"\0\1"])):
-            self.refused(self.in_data(content))
-            file = File()
-            right = file.put(block([]))
-            wrong = file.put(content)
-            self.refused(file.ended(right, wrong))
-            self.refused(file.ended(wrong, right))
+            self.refused_as_any(content)
 
 
 class OrderTest(RefusalsTest):
@@ -484,6 +471,14 @@ class FilterTest(RefusalsTest):
             self.refused(self.with_filter(filter_of([b"abc"], [0], told)))
         self.counted(self.with_filter(filter_of([b"abc"], [0], 7)), 3)
         self.counted(self.with_filter(filter_of([b"abc"], [0], 3)), 3)
+
+    def test_places_of_four_bytes_each(self):
+        for length in range(14):
+            table = self.with_filter(bytes(length) + b"\0\0\0\0\x0b")
+            if length % 4 == 0:
+                self.counted(table, 3)
+            else:
+                self.refused(table)
 
     def test_places_past_where_they_are_told(self):
         for places in ([4], [0, 4], [3, 4], [0, 2, 5], [2 ** 32 - 1], [0, 2 ** 31], [100, 3], [4, 4]):

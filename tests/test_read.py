@@ -3,18 +3,12 @@ import struct
 import unittest
 
 from keylogs import desk
-from tests.helper import crc32c_fast, masked, noise
+from tests.helper import crc32c_fast, log_piece as piece, masked, noise
 
 LONGEST = 16777216
 BLOCK = 32768
 # Where a record is tried: at beginnings, in the midst, and where 8 bytes down to 1 are left in a block.
 PLACES = [0, 1, 500, 30000] + [BLOCK - left for left in range(8, 0, -1)] + [BLOCK, BLOCK + 7]
-
-
-def piece(kind, content, change=0, length=None):
-    """A piece, its sum perhaps changed; a length may be told that isn't its own."""
-    seal = masked(crc32c_fast(bytes([kind]) + content)) ^ change
-    return struct.pack("<IHB", seal, len(content) if length is None else length, kind) + content
 
 
 def read(place, log, most=LONGEST):

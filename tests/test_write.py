@@ -1,18 +1,11 @@
 """Promise 7: write."""
-import struct
 import unittest
 
 from keylogs import desk
-from tests.helper import crc32c_fast, masked, noise
+from tests.helper import log_piece as piece, noise
 
 LONGEST = 16777216
 BLOCK = 32768
-
-
-def piece(kind, content):
-    """A piece of a record, as told."""
-    seal = masked(crc32c_fast(bytes([kind]) + content))
-    return struct.pack("<IHB", seal, len(content), kind) + content
 
 
 def write(place, content, most=LONGEST):

@@ -18,11 +18,11 @@ class BlockWriter:
         self.entries = 0
         self.last_key = []
 
-    def put(self, key, value):
-        """Puts an entry in; its key comes behind all keys so far."""
+    def put(self, key, value, known):
+        """Puts an entry in; its key comes behind all so far, and is known to have so much in common with the last."""
         shared = 0
         if self.entries % self.interval != 0:
-            shared = shared_length(self.last_key, key)
+            shared = shared_length(self.last_key, key, known)
         elif self.entries > 0:
             self.restarts.append(len(self.body))
         self.body.extend(varint(shared))
@@ -54,6 +54,7 @@ class BlockReader:
         self.scanner = Scanner(block, 0, len(block) - NUMBER_WIDTH * (len(self.restarts) + 1))
         # The first restart is where the first entry begins, and that can have nothing in common with a key before.
         self.met = 1
+        self.shared = 0
         self.key = []
         self.value = []
 
@@ -64,29 +65,29 @@ class BlockReader:
                 raise NoTable()
             return False
         begin = self.scanner.place
-        shared = self.scanner.taken_varint()
+        self.shared = self.scanner.taken_varint()
         more_length = self.scanner.taken_varint()
         value_length = self.scanner.taken_varint()
-        self.meet_restart(begin, shared)
-        self.change_key(begin, shared, self.scanner.taken(more_length))
+        self.meet_restart(begin)
+        self.change_key(begin, self.scanner.taken(more_length))
         self.value = self.scanner.taken(value_length)
         return True
 
-    def meet_restart(self, begin, shared):
+    def meet_restart(self, begin):
         """Looks whether the entry that begins there is one for a restart, and may be."""
         if self.met < len(self.restarts) and self.restarts[self.met] == begin:
-            if shared > 0:
+            if self.shared > 0:
                 raise NoTable()
             self.met += 1
 
-    def change_key(self, begin, shared, more):
+    def change_key(self, begin, more):
         """The key is changed in place, for few bytes may stand for many long keys."""
-        if shared > len(self.key):
+        if self.shared > len(self.key):
             raise NoTable()
-        dropped = self.key[shared:]
+        dropped = self.key[self.shared:]
         if begin > 0 and more <= dropped:
             raise NoTable()
-        while len(self.key) > shared:
+        while len(self.key) > self.shared:
             self.key.pop()
         self.key.extend(more)
 

@@ -60,6 +60,6 @@ def key_hashes(keys):
     if keys == []:
         return []
     # What the first and the last have in common, those between have too.
-    shared = shared_length(keys[0], keys[-1]) // 4 * 4
+    shared = shared_length(keys[0], keys[-1], 0) // 4 * 4
     begun_ones = mixed_together([len(key) for key in keys], keys[0][:shared])
     return [mixed_on(mixed, key[shared:]) for mixed, key in zip(begun_ones, keys)]

@@ -3,9 +3,9 @@
 STRIDE = 1024
 
 
-def shared_length(one, other):
-    """How many first bytes the two keys have in common."""
-    shared = 0
+def shared_length(one, other, known):
+    """How many first bytes the two keys have in common; so many are known already."""
+    shared = known
     # Many bytes are compared at once first, for keys may be long and have much in common.
     while shared < len(one) and one[shared:shared + STRIDE] == other[shared:shared + STRIDE]:
         shared += STRIDE
@@ -18,7 +18,7 @@ def shared_length(one, other):
 
 def key_between(last, following):
     """The index key of a block whose last key comes before the next block's first one."""
-    shared = shared_length(last, following)
+    shared = shared_length(last, following, 0)
     ended = shared == len(last) or shared == len(following)
     if not ended and last[shared] + 1 < following[shared]:
         return last[:shared] + [last[shared] + 1]

@@ -25,11 +25,11 @@ class TableWriter:
         self.unlisted = None
         self.ending = []
 
-    def put(self, key, value):
-        """Puts an entry in; its key comes behind all keys so far."""
+    def put(self, key, value, known):
+        """Puts an entry in; its key comes behind all so far, and is known to have so much in common with the last."""
         if self.unlisted is not None:
             self.list_block(key_between(self.last_key, key))
-        self.block.put(key, value)
+        self.block.put(key, value, known)
         self.last_key = key
         if self.filter_writer is not None:
             self.filter_writer.put(key)
@@ -56,7 +56,7 @@ class TableWriter:
 
     def list_block(self, index_key):
         """Puts the last data block into the index."""
-        self.index_writer.put(index_key, self.unlisted.packed())
+        self.index_writer.put(index_key, self.unlisted.packed(), 0)
         self.unlisted = None
 
     def finish(self):
@@ -68,20 +68,18 @@ class TableWriter:
         meta = BlockWriter(self.interval)
         if self.filter_writer is not None:
             filter_handle = self.add_part(self.filter_writer.content(self.end))
-            meta.put(filter_key(), filter_handle.packed())
+            meta.put(filter_key(), filter_handle.packed(), 0)
         meta_handle = self.add_part(meta.content())
         index_handle = self.add_part(self.index_writer.content())
         self.ending = table_end(meta_handle, index_handle)
         return self.end + len(self.ending)
 
-    def content(self):
-        """The bytes of a table that's finished."""
-        out = []
+    def append_to(self, out):
+        """Puts the bytes of a table that's finished at the end of out."""
         for part in self.parts:
             out.extend(part)
             out.extend(seal_of(part))
         out.extend(self.ending)
-        return out
 
 
 def finished_table(writer, most):
@@ -90,12 +88,14 @@ def finished_table(writer, most):
     # Sums are taken only of a table that isn't too long, for that's slow.
     if total > most:
         return [TOO_LONG]
-    return [total] + writer.content()
+    answer = [total]
+    writer.append_to(answer)
+    return answer
 
 
 def made_table(entries, interval, size, bits, most):
     """How long the table of entries is, and it; a refusal, if it's longer than most."""
     writer = TableWriter(interval, size, bits)
     for key, value in entries:
-        writer.put(key, value)
+        writer.put(key, value, 0)
     return finished_table(writer, most)

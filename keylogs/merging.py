@@ -16,6 +16,7 @@ class Source:
     def __init__(self, place, file):
         self.place = place
         self.table = Table(file)
+        self.turn = 0
 
     def comes_before(self, other):
         """Whether its entry is taken before the other's; of equal keys the first table's is."""
@@ -30,13 +31,17 @@ class Merger:
     def __init__(self, files):
         # The source whose entry is taken next stands last.
         self.sources = []
+        # How many keys have been taken.
+        self.turn = 0
         self.key = []
         self.value = []
+        self.known = 0
         for place, file in enumerate(files):
             self.go_on(Source(place, file))
 
     def go_on(self, source):
         """Goes to a source's next entry, and puts it among those that have one."""
+        source.turn = self.turn
         if not source.table.advance():
             return
         low = 0
@@ -57,6 +62,9 @@ class Merger:
         # The table's own key changes as it's gone through.
         self.key = list(first.table.block.key)
         self.value = first.table.block.value
+        # A source that went on at the last turn had the last key, and tells how much its next one shares with that.
+        self.known = first.table.block.shared if first.turn == self.turn else 0
+        self.turn += 1
         self.go_on(first)
         while self.sources != [] and self.sources[-1].table.block.key == self.key:
             self.go_on(self.sources.pop())
@@ -81,7 +89,7 @@ def merged_table(files, interval, size, bits, most):
     merger = Merger(files)
     writer = TableWriter(interval, size, bits)
     while merger.advance():
-        writer.put(merger.key, merger.value)
+        writer.put(merger.key, merger.value, merger.known)
         # A few bytes may stand for many long keys, so what's far too long isn't written to its end.
         if writer.reached() > most:
             return [TOO_LONG]

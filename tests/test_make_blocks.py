@@ -48,6 +48,15 @@ class PackingTest(unittest.TestCase):
     def test_in_common_varies(self):
         self.check_all(sorted({noise(i % 6, i + 1) for i in range(300)}))
 
+    def test_long_beginnings_in_common(self):
+        for length in (1000, 1023, 1024, 1025, 2047, 2048, 2049, 5000):
+            begin = noise(length, length)
+            ends = (b"", b"a", b"b", b"ba", noise(1024), noise(1024) + b"a", noise(1100))
+            keys = sorted({begin + end for end in ends})
+            made = table(16, 65536, 0, [(key, b"") for key in keys])
+            self.assertEqual(made.entries(), [(key, b"") for key in keys])
+            self.check_blocks(made.data, 16)
+
     def test_as_many_entries_as_the_interval_and_one_more(self):
         for interval in (1, 2, 5, 64):
             for count in (1, interval, interval + 1, 2 * interval, 2 * interval + 1):
@@ -204,6 +213,14 @@ class IndexKeyTest(unittest.TestCase):
 
     def test_last_block_with_an_empty_key_alone(self):
         self.assertEqual(self.behind(b""), b"")
+
+    def test_long_beginnings_in_common(self):
+        for length in (1023, 1024, 1025, 2048, 5000):
+            begin = noise(length, length)
+            self.assertEqual(self.between(begin + b"a", begin + b"c"), begin + b"b")
+            self.assertEqual(self.between(begin + b"a", begin + b"b"), begin + b"a")
+            self.assertEqual(self.between(begin, begin + b"b"), begin)
+            self.assertEqual(self.behind(b"\xff" * length + b"a"), b"\xff" * length + b"b")
 
     def test_last_key_counts_not_the_first(self):
         entries = [(b"aa", b""), (b"ab", b"v" * 64), (b"ad", b""), (b"ag", b"")]

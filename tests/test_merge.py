@@ -142,6 +142,22 @@ class FilesTest(unittest.TestCase):
             self.assertEqual(desk.at(0, LONGEST, given[1:]), [-6])
             self.assertEqual(desk.merge(interval, size, bits, len(given) - 2, files), [-7])
 
+    def test_as_much_in_common_as_can_be(self):
+        # Less is told in common than there is, and the files' keys come one after the other's in many ways.
+        parts = [entry(0, b"abcdef"), entry(2, b"cdeg"), entry(5, b"h"), entry(0, b"abcdej"), entry(1, b"c"),
+                 entry(1, b"d"), entry(0, b"adx")]
+        first = table_of([packed(parts)], [b"ae"])
+        mine = strict(first).entries()
+        for keys in ([b"abcdeg"], [b"abcdega", b"abcdei"], [b"a", b"abcdefg", b"abcdek", b"acz", b"adxy"],
+                     [key for key, value in mine], sorted(key + b"z" for key, value in mine)):
+            yours = [(key, b"2") for key in keys]
+            second = table_of([yours])
+            for interval in (1, 3, 16):
+                self.assertEqual(desk.merge(interval, 4096, 10, LONGEST, files_of(first, second)),
+                                 made(together(mine, yours), interval, 4096, 10))
+                self.assertEqual(desk.merge(interval, 4096, 10, LONGEST, files_of(second, first)),
+                                 made(together(yours, mine), interval, 4096, 10))
+
     def test_long_keys_of_two_files(self):
         entries = [(b"k" * 3000 + bytes([i]), bytes([i])) for i in range(200)]
         files = files_of(table_of([entries[0::2]]), table_of([entries[1::2]]))

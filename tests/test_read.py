@@ -137,6 +137,15 @@ class EndsTest(unittest.TestCase):
                 self.assertEqual(read(place, log[:length]), [-3])
             self.assertEqual(read(place, log), answer(b"some bytes", len(log)))
 
+    def test_cut_in_two_pieces(self):
+        for place in (BLOCK - 27, BLOCK - 8, BLOCK - 7):
+            content = noise(40)
+            log = bytes(place) + written(place, content)
+            self.assertEqual(len(log), place + 54)
+            for length in range(place, len(log)):
+                self.assertEqual(read(place, log[:length]), [-3])
+            self.assertEqual(read(place, log), answer(content, len(log)))
+
     def test_cut_in_several_pieces(self):
         place = BLOCK - 27
         content = noise(32800)

@@ -16,7 +16,6 @@ class Source:
     def __init__(self, place, file):
         self.place = place
         self.table = Table(file)
-        self.turn = 0
 
     def comes_before(self, other):
         """Whether its entry is taken before the other's; of equal keys the first table's is."""
@@ -31,8 +30,6 @@ class Merger:
     def __init__(self, files):
         # The source whose entry is taken next stands last.
         self.sources = []
-        # How many keys have been taken.
-        self.turn = 0
         self.key = []
         self.value = []
         self.known = 0
@@ -41,7 +38,6 @@ class Merger:
 
     def go_on(self, source):
         """Goes to a source's next entry, and puts it among those that have one."""
-        source.turn = self.turn
         if not source.table.advance():
             return
         low = 0
@@ -62,9 +58,8 @@ class Merger:
         # The table's own key changes as it's gone through.
         self.key = list(first.table.block.key)
         self.value = first.table.block.value
-        # A source that went on at the last turn had the last key, and tells how much its next one shares with that.
-        self.known = first.table.block.shared if first.turn == self.turn else 0
-        self.turn += 1
+        # What it has in common with its own table's key before, it has with all between, so with the last one taken.
+        self.known = first.table.block.shared
         self.go_on(first)
         while self.sources != [] and self.sources[-1].table.block.key == self.key:
             self.go_on(self.sources.pop())
